@@ -1,0 +1,1 @@
+"""Substitution rules: which coalitions can continue a game."""
