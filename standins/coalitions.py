@@ -16,6 +16,10 @@ def has_member(coalition, player):
     return (coalition & POWERS[player]) != 0
 
 
+def size(coalition):
+    return len([power for power in POWERS if (coalition & power) != 0])
+
+
 def is_enabled(rule, coalition):
     present = [player for player in rule.substitutes if has_member(coalition, player)]
     return len(present) >= rule.needed
@@ -81,8 +85,18 @@ def sufficient_flags(room):
     return flags
 
 
+def sufficient_coalitions(room):
+    flags = sufficient_flags(room)
+    return [coalition for coalition in range(len(flags)) if flags[coalition]]
+
+
 def blocking_flags(room):
     return [not flag for flag in reversed(sufficient_flags(room))]
+
+
+def return_flags(room, coalition):
+    flags = sufficient_flags(room)
+    return [(others & coalition) == 0 and flags[others | coalition] for others in range(len(flags))]
 
 
 def minimal_coalitions(flags):

@@ -55,6 +55,46 @@ def minimal_blocking():
     return [9]
 
 
+def cheapest():
+    return [10]
+
+
+def packed(packing):
+    return [11, len(packing)] + list(packing)
+
+
+def returns(coalition):
+    return [12, coalition]
+
+
+def swings(player):
+    return [13, player]
+
+
+def index(player):
+    return [14, player]
+
+
+def continuation(a, b):
+    return [15, a, b]
+
+
+def counts():
+    return [16]
+
+
+def remove_rule(rule):
+    return [17, rule]
+
+
+def set_weight(player, weight):
+    return [18, player, weight]
+
+
+def summary():
+    return [19]
+
+
 def apart(flat):
     """The answers, one list each; what is left over would be an error."""
     found = []
@@ -85,9 +125,20 @@ def ask_in(text, *calls):
     return found[1:]
 
 
-def printed(text):
-    """The canonical text of a room, as a text."""
-    answer = ask_in(text, print_room())[0]
+def ask_behind(text, changes, calls):
+    """The answer of each call in a room that is changed first; more calls than a list may hold."""
+    found = []
+    for place in range(0, len(calls), 70):
+        answered = ask_in(text, *changes, *calls[place:place + 70])
+        if any(answer[0] != 0 for answer in answered[:len(changes)]):
+            raise AssertionError(f"not changed: {answered[:len(changes)]}")
+        found.extend(answered[len(changes):])
+    return found
+
+
+def printed(text, *changes):
+    """The canonical text of a room, changed first, as a text."""
+    answer = ask_behind(text, changes, [print_room()])[0]
     if answer[0] != 0 or answer[1] != len(answer) - 2:
         raise AssertionError(f"not a text: {answer}")
     return bytes(answer[2:]).decode("latin-1")

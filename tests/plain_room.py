@@ -1,17 +1,19 @@
 """A second, slow way to the same answers, by sets and straight from the definitions.
 
 A room here is the number of its players and a list of rules, each
-(absent player, required number, substitutes).
+(absent player, required number, substitutes); where weights matter, a list of them too.
 """
 
 import random
-from itertools import combinations
+from fractions import Fraction
+from functools import lru_cache
+from itertools import combinations, permutations
 
 NAMES = "abcdefgh"
 
 
-def room_text(count, rules):
-    lines = [f"player {name} weight 1" for name in NAMES[:count]]
+def room_text(count, rules, weights=(1,) * 8):
+    lines = [f"player {name} weight {weight}" for name, weight in zip(NAMES[:count], weights)]
     for absent, needed, substitutes in rules:
         names = " ".join(NAMES[substitute] for substitute in substitutes)
         lines.append(f"keep {NAMES[absent]} by any {needed} of {names}")
@@ -60,8 +62,13 @@ def steps(count, rules, group):
 
 
 def sufficient(count, rules):
+    return sufficient_of(count, tuple((absent, needed, tuple(others)) for absent, needed, others in rules))
+
+
+@lru_cache(maxsize=None)
+def sufficient_of(count, rules):
     everyone = frozenset(range(count))
-    return {group for group in subsets(everyone) if smallest_closed(count, rules, group) == everyone}
+    return frozenset(group for group in subsets(everyone) if smallest_closed(count, rules, group) == everyone)
 
 
 def blocking(count, rules):
@@ -72,6 +79,79 @@ def blocking(count, rules):
 
 def minimal(groups):
     return sorted(number(group) for group in groups if not any(group - {player} in groups for player in group))
+
+
+def weight(weights, group):
+    return sum(weights[player] for player in group)
+
+
+def cheapest(count, rules, weights):
+    return min((weight(weights, group), number(group)) for group in sufficient(count, rules))
+
+
+def packing(count, rules, weights, listed):
+    """The numbers of verify_packing's answer; listed are pairs of a coalition and its number."""
+    block = blocking(count, rules)
+    loads = [sum(packed for coalition, packed in listed if player in members(coalition)) for player in range(count)]
+    if any(members(coalition) not in block for coalition, _ in listed):
+        return [0]
+    if any(load > most for load, most in zip(loads, weights)):
+        return [0]
+    return [1, sum(packed for _, packed in listed)]
+
+
+def returns(count, rules, group):
+    enough = sufficient(count, rules)
+    others = subsets(frozenset(range(count)) - group)
+    return minimal({part for part in others if part | group in enough})
+
+
+def swings(count, rules, player):
+    enough = sufficient(count, rules)
+    without = [group for group in subsets(range(count)) if player not in group]
+    return sum(1 for group in without if group not in enough and group | {player} in enough)
+
+
+def indices(count, rules):
+    """The power index of every player, counted over all orders."""
+    enough = {number(group) for group in sufficient(count, rules)}
+    found = [0] * count
+    orders = list(permutations(range(count)))
+    for order in orders:
+        present = 0
+        for player in order:
+            present += 2 ** player
+            if present in enough:
+                found[player] += 1
+                break
+    return [Fraction(pivots, len(orders)) for pivots in found]
+
+
+def continuation(count, rules, a, b):
+    """Each coalition's own probability, summed up over the sufficient ones."""
+    stays = Fraction(a, b)
+    chances = [stays ** len(group) * (1 - stays) ** (count - len(group)) for group in sufficient(count, rules)]
+    return sum(chances, Fraction(0))
+
+
+def counts(count, rules):
+    sizes = [len(group) for group in sufficient(count, rules)]
+    return [sizes.count(size) for size in range(count + 1)]
+
+
+def without_rule(rules, rule):
+    return rules[:rule - 1] + rules[rule:]
+
+
+def sample_weights(source, count):
+    """Some rooms with many equal weights and zeros, some with few."""
+    most = source.choice((1, 3, 20, 1000))
+    return [source.randint(0, most) for _ in range(count)]
+
+
+def weighted_rooms():
+    source = random.Random(11)
+    return [(count, rules, sample_weights(source, count)) for count, rules in sample_rooms()]
 
 
 def sample_rooms():
@@ -88,6 +168,17 @@ def sample_rooms():
     for count in (2, 3, 4, 4, 5, 5, 6, 6, 7, 8):
         rooms.append((count, [sample_rule(source, count) for _ in range(source.randint(1, 12))]))
     return rooms
+
+
+def changed_rooms():
+    """Rooms, a rule to be removed from each, and the rules that are left."""
+    source = random.Random(13)
+    found = []
+    for count, rules in sample_rooms():
+        if rules:
+            rule = source.randint(1, len(rules))
+            found.append((count, rules, rule, without_rule(rules, rule)))
+    return found
 
 
 def sample_rule(source, count):

@@ -1,7 +1,8 @@
 import unittest
 
 import plain_room
-from asking import acting, ask_in, blocking, check_steps, closed, minimal_blocking, minimal_sufficient, sufficient
+from asking import acting, ask_behind, ask_in, blocking, check_steps, closed
+from asking import minimal_blocking, minimal_sufficient, sufficient
 
 EIGHT = "".join(f"player {name} weight 1\n" for name in "abcdefgh")
 FIVE = "".join(f"player {name} weight 1\n" for name in "abcde")
@@ -9,16 +10,8 @@ FIVE = "".join(f"player {name} weight 1\n" for name in "abcde")
 
 def flags(text, call, count):
     """The answers, 1 or 0, of a call for every coalition of a room."""
-    found = ask_in_parts(text, [call(coalition) for coalition in range(2 ** count)])
+    found = ask_behind(text, [], [call(coalition) for coalition in range(2 ** count)])
     return [answer[1] for answer in found if answer[0] == 0 and len(answer) == 2]
-
-
-def ask_in_parts(text, calls):
-    """No list holds more than 100 calls."""
-    found = []
-    for place in range(0, len(calls), 90):
-        found.extend(ask_in(text, *calls[place:place + 90]))
-    return found
 
 
 class Acting(unittest.TestCase):
@@ -79,7 +72,7 @@ class Acting(unittest.TestCase):
     def test_against_the_definitions(self):
         for count, rules in plain_room.sample_rooms():
             text = plain_room.room_text(count, rules)
-            found = ask_in_parts(text, [acting(coalition) for coalition in range(2 ** count)])
+            found = ask_behind(text, [], [acting(coalition) for coalition in range(2 ** count)])
             for coalition, answer in enumerate(found):
                 group = plain_room.members(coalition)
                 steps = plain_room.steps(count, rules, group)
@@ -90,9 +83,9 @@ class Acting(unittest.TestCase):
         for count, rules in plain_room.sample_rooms():
             text = plain_room.room_text(count, rules)
             coalitions = range(2 ** count)
-            found = ask_in_parts(text, [acting(coalition) for coalition in coalitions])
+            found = ask_behind(text, [], [acting(coalition) for coalition in coalitions])
             calls = [check_steps(coalition, found[coalition][3:]) for coalition in coalitions]
-            self.assertEqual(ask_in_parts(text, calls), [[0, 1]] * 2 ** count)
+            self.assertEqual(ask_behind(text, [], calls), [[0, 1]] * 2 ** count)
             for coalition in coalitions:
                 reached = plain_room.members(coalition) | set(found[coalition][3::2])
                 self.assertEqual(plain_room.number(reached), found[coalition][1])
